@@ -1,0 +1,1 @@
+"""Twos as far apart as they're numbered."""
