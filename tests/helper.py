@@ -1,4 +1,9 @@
-"""Rows for the tests, made by laying down pairs and not by asking the program."""
+"""Rows for the tests, made by laying down pairs and not by asking the program; and how a call is asked."""
+import contextlib
+import functools
+import io
+import itertools
+import unittest
 
 FAR_BELOW = -2147483648
 FAR_ABOVE = 2147483647
@@ -14,6 +19,38 @@ class UnchangingList(list):
     append = extend = insert = pop = remove = clear = sort = reverse = refuse
 
 
+class CallTest(unittest.TestCase):
+    """What holds of every call: it gives back ints in a list, changes nothing, keeps nothing, prints nothing."""
+
+    def ask(self, call, *handed):
+        handed = [UnchangingList(value) if isinstance(value, list) else value for value in handed]
+        before = [list(value) if isinstance(value, list) else value for value in handed]
+        out, err = io.StringIO(), io.StringIO()
+        with contextlib.redirect_stdout(out), contextlib.redirect_stderr(err):
+            answer = call(*handed)
+            given = list(answer)
+            self.assertIs(type(answer), list)
+            self.assertEqual({type(number) for number in answer}, {int})
+            answer[0] = 99
+            answer.append(7)
+            self.assertEqual(call(*handed), given)
+        self.assertEqual(handed, before)
+        self.assertEqual((out.getvalue(), err.getvalue()), ("", ""))
+        return given
+
+    def check(self, expected, call, *handed):
+        with self.subTest(handed=handed):
+            self.assertEqual(self.ask(call, *handed), expected)
+
+
+def some_not_in_range(*choices):
+    """Every choice of one number each out of (in range, not in range) pairs, but those that are all in range."""
+    for picked in itertools.product(*(inside + off for inside, off in choices)):
+        if any(number not in inside for number, (inside, off) in zip(picked, choices)):
+            yield picked
+
+
+@functools.cache
 def all_rows(d, m, h):
     """Every row of the m numbers from d on, as tuples."""
     size = 2 * m + h
@@ -21,7 +58,8 @@ def all_rows(d, m, h):
     if h == 1:
         start[2 * m - 1] = 0
     rows = [start]
-    for number in range(d, d + m):
+    # The greatest number has the fewest places to stand at.
+    for number in range(d + m - 1, d - 1, -1):
         longer = []
         for row in rows:
             for place in range(size - number):
@@ -30,7 +68,7 @@ def all_rows(d, m, h):
                     laid[place] = laid[place + number] = number
                     longer.append(laid)
         rows = longer
-    return {tuple(row) for row in rows}
+    return frozenset(tuple(row) for row in rows)
 
 
 def lay_pairs(size, pairs):

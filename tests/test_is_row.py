@@ -1,28 +1,15 @@
-import contextlib
-import io
 import itertools
 import unittest
 
 from tests.helper import (
-    FAR_ABOVE, FAR_BELOW, UnchangingList, all_rows, long_hooked_row, long_row, tight_row,
+    FAR_ABOVE, FAR_BELOW, CallTest, all_rows, long_hooked_row, long_row, some_not_in_range, tight_row,
 )
 from twinplaces.desk import is_row
 
 
-class IsRowTest(unittest.TestCase):
-    def ask(self, d, m, h, w):
-        """Ask twice, and see that the answer is one int and that w is left alone."""
-        handed = UnchangingList(w)
-        answer = is_row(d, m, h, handed)
-        self.assertIs(type(answer), list)
-        self.assertEqual([type(number) for number in answer], [int])
-        self.assertEqual(handed, list(w))
-        self.assertEqual(is_row(d, m, h, handed), answer)
-        return answer
-
+class IsRowTest(CallTest):
     def check(self, expected, d, m, h, w):
-        with self.subTest(d=d, m=m, h=h, w=list(w)):
-            self.assertEqual(self.ask(d, m, h, w), [expected])
+        super().check([expected], is_row, d, m, h, list(w))
 
 
 class SuchRows(IsRowTest):
@@ -165,33 +152,14 @@ class Edges(IsRowTest):
 
 
 class NotInRange(IsRowTest):
-    OFF_BY_D_AND_M = (0, 65, -1, FAR_BELOW, FAR_ABOVE)
-    OFF_BY_H = (-1, 2, FAR_BELOW, FAR_ABOVE)
+    OFF = (0, 65, -1, FAR_BELOW, FAR_ABOVE)
     WS = ([], [0], [1, 1], [2, 0, 2], [3, 4, 2, 3, 2, 4], [0] * 64, [255] * 64, long_row(8))
 
-    def refused(self, d, m, h):
-        for w in self.WS:
-            self.check(-2, d, m, h, w)
-
-    def test_d_alone(self):
-        for d, m, h in itertools.product(self.OFF_BY_D_AND_M, (1, 3, 64), (0, 1)):
-            self.refused(d, m, h)
-
-    def test_m_alone(self):
-        for d, m, h in itertools.product((1, 2, 64), self.OFF_BY_D_AND_M, (0, 1)):
-            self.refused(d, m, h)
-
-    def test_h_alone(self):
-        for d, m, h in itertools.product((1, 2, 64), (1, 3, 32, 64), self.OFF_BY_H):
-            self.refused(d, m, h)
-
-    def test_several_together(self):
-        for d, m in itertools.product(self.OFF_BY_D_AND_M, repeat=2):
-            for h in (0, 1) + self.OFF_BY_H:
-                self.refused(d, m, h)
-        for number, h in itertools.product(self.OFF_BY_D_AND_M, self.OFF_BY_H):
-            self.refused(number, 3, h)
-            self.refused(2, number, h)
+    def test_each_alone_and_together(self):
+        choices = (((1, 2, 64), self.OFF), ((1, 3, 32, 64), self.OFF), ((0, 1), (-1, 2, FAR_BELOW, FAR_ABOVE)))
+        for d, m, h in some_not_in_range(*choices):
+            for w in self.WS:
+                self.check(-2, d, m, h, w)
 
 
 class NothingElse(IsRowTest):
@@ -205,19 +173,6 @@ class NothingElse(IsRowTest):
         for (expected, call), (after, later) in itertools.product(calls, repeat=2):
             self.assertEqual(is_row(*call), [expected])
             self.assertEqual(is_row(*later), [after])
-
-    def test_an_answer_that_is_changed_changes_no_later_one(self):
-        for expected, call in ((1, (1, 1, 0, [1, 1])), (0, (1, 1, 0, [1, 2])), (-2, (0, 1, 0, [1, 1]))):
-            is_row(*call).append(7)
-            self.assertEqual(is_row(*call), [expected])
-
-    def test_nothing_is_printed(self):
-        out, err = io.StringIO(), io.StringIO()
-        with contextlib.redirect_stdout(out), contextlib.redirect_stderr(err):
-            is_row(2, 3, 0, [3, 4, 2, 3, 2, 4])
-            is_row(2, 3, 0, [3, 4, 2, 3, 2, 0])
-            is_row(0, 3, 0, [])
-        self.assertEqual((out.getvalue(), err.getvalue()), ("", ""))
 
     def test_arguments_by_their_names(self):
         self.assertEqual(is_row(d=2, m=3, h=0, w=[3, 4, 2, 3, 2, 4]), [1])

@@ -1,6 +1,10 @@
 """The calls. Each gives back a list of whole numbers; a refusal is its number alone."""
 
 NOT_IN_RANGE = -2
+NO_SUCH_ROW = -5
+
+# At the hook stands 0, so an empty place needs another sign.
+EMPTY = -1
 
 
 def is_within(number, least, most):
@@ -35,3 +39,51 @@ def is_row(d, m, h, w):
     if is_hook_right(m, h, w) and all_stand_as_they_say(d, m, w):
         return [1]
     return [0]
+
+
+def empty_row(m, h):
+    row = [EMPTY] * (2 * m + h)
+    if h == 1:
+        row[2 * m - 1] = 0
+    return row
+
+
+def can_stand(number, place, row):
+    """Tell whether number, once at the empty place, can stand a second time as far behind it as it says."""
+    later = place + number
+    return number not in row and later < len(row) and row[later] == EMPTY
+
+
+def with_pair(number, place, row):
+    longer = list(row)
+    longer[place] = number
+    longer[place + number] = number
+    return longer
+
+
+def rows_with_one_more(d, m, row):
+    """Fill the first empty place of row, and its partner, in every way: the greatest number first."""
+    place = row.index(EMPTY)
+    numbers = [number for number in range(d + m - 1, d - 1, -1) if can_stand(number, place, row)]
+    return [with_pair(number, place, row) for number in numbers]
+
+
+def take_next_row(d, m, waiting):
+    """Take rows from the end of waiting, and put there what each can become, until one is full; None if none is."""
+    while len(waiting) > 0:
+        row = waiting.pop()
+        if EMPTY not in row:
+            return row
+        # The least number was put in last and is taken first: so full rows come in their order.
+        waiting.extend(rows_with_one_more(d, m, row))
+    return None
+
+
+def first(d, m, h):
+    """Give the first row of the m numbers from d on, hooked if h is 1: how many places, and they."""
+    if not (is_within(d, 1, 8) and is_within(m, 1, 12) and is_within(h, 0, 1)):
+        return [NOT_IN_RANGE]
+    row = take_next_row(d, m, [empty_row(m, h)])
+    if row is None:
+        return [NO_SUCH_ROW]
+    return [len(row)] + row
