@@ -87,3 +87,14 @@ def first(d, m, h):
     if row is None:
         return [NO_SUCH_ROW]
     return [len(row)] + row
+
+
+def count(d, m, h):
+    """Tell how many rows of the m numbers from d on there are, hooked if h is 1."""
+    if not (is_within(d, 1, 8) and is_within(m, 1, 9) and is_within(h, 0, 1)):
+        return [NOT_IN_RANGE]
+    waiting = [empty_row(m, h)]
+    found = 0
+    while take_next_row(d, m, waiting) is not None:
+        found += 1
+    return [found]
