@@ -98,3 +98,24 @@ def count(d, m, h):
     while take_next_row(d, m, waiting) is not None:
         found += 1
     return [found]
+
+
+def is_there_a_plain_row(d, m):
+    # The distances must add up to what the places allow at the most, or to less by an even number;
+    # where they do there is a row, and a hooked one likewise (Simpson).
+    rests = (0, 1) if d % 2 == 1 else (0, 3)
+    return m >= 2 * d - 1 and m % 4 in rests
+
+
+def is_there_a_hooked_row(d, m):
+    rests = (2, 3) if d % 2 == 1 else (1, 2)
+    return m * (m - 2 * d + 1) + 2 >= 0 and m % 4 in rests
+
+
+def sure(d, m):
+    """Tell whether there's a row of the m numbers from d on: 1 for one that isn't hooked, and 2 for a hooked one."""
+    if not (is_within(d, 1, 1000) and is_within(m, 1, 1000)):
+        return [NOT_IN_RANGE]
+    plain = 1 if is_there_a_plain_row(d, m) else 0
+    hooked = 2 if is_there_a_hooked_row(d, m) else 0
+    return [plain + hooked]
