@@ -1,6 +1,7 @@
 """The calls. Each gives back a list of whole numbers; a refusal is its number alone."""
 
 NOT_IN_RANGE = -2
+NOT_A_ROW = -3
 NO_SUCH_ROW = -5
 
 # At the hook stands 0, so an empty place needs another sign.
@@ -119,3 +120,21 @@ def sure(d, m):
     plain = 1 if is_there_a_plain_row(d, m) else 0
     hooked = 2 if is_there_a_hooked_row(d, m) else 0
     return [plain + hooked]
+
+
+def three_of(k, m, w):
+    places = places_of(k, w)
+    # Places are counted from 0 elsewhere, but from 1 in a three.
+    return [k, places[0] + 1 + m, places[1] + 1 + m]
+
+
+def threes(m, w):
+    """Give for each number of the row w, from 1 to m, itself and its two places, counted from 1 and m added."""
+    if not is_within(m, 1, 64):
+        return [NOT_IN_RANGE]
+    if is_row(1, m, 0, w) != [1]:
+        return [NOT_A_ROW]
+    answer = [3 * m]
+    for k in range(1, m + 1):
+        answer.extend(three_of(k, m, w))
+    return answer
