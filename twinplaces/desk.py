@@ -138,3 +138,13 @@ def threes(m, w):
     for k in range(1, m + 1):
         answer.extend(three_of(k, m, w))
     return answer
+
+
+def ring(v):
+    """Tell whether there's a ring of threes of v points: 1 or 0."""
+    if not is_within(v, 3, 1000):
+        return [NOT_IN_RANGE]
+    # Any two points can be together just once for these v alone; a ring is missing for 9 alone (Peltesohn).
+    if v % 6 in (1, 3) and v != 9:
+        return [1]
+    return [0]
